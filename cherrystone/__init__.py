@@ -1,0 +1,1 @@
+"""Cherrystone: hard questions on graphs, shrunk to small kernels, with papers."""

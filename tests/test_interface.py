@@ -1,0 +1,54 @@
+import inspect
+import unittest
+
+from cherrystone import errors, graphs, ways
+
+FUNCTIONS = {
+    graphs: {
+        "make_graph": ["nodes", "pairs"], "is_list": ["graph", "nodes"], "is_path": ["graph", "nodes"],
+        "is_cycle": ["graph", "nodes"], "components": ["graph"], "distances": ["graph", "v"],
+        "shortest_cycle": ["graph"], "two_colours": ["graph"], "degeneracy": ["graph"], "format_graph": ["graph"],
+        "parse_graph": ["text"],
+    },
+    ways: {
+        "disjoint_ways": ["graph", "first", "second"], "are_ways": ["graph", "first", "second", "ways"],
+        "separates": ["graph", "first", "second", "nodes"], "ways_between": ["graph", "u", "v"],
+        "farthest": ["graph", "first", "second"], "connectivity": ["graph"],
+    },
+}
+CLASSES = {
+    errors: {name: [] for name in ("CherrystoneError", "BadGraph", "BadFamily", "BadArgument", "BadText", "TooLarge",
+                                   "BadLine")},
+    graphs: {"Graph": ["__init__", "__eq__", "neighbours", "degree", "adjacent", "induced", "without", "complement",
+                       "many"]},
+}
+
+
+class Interface(unittest.TestCase):
+    """What DOC.md lists stands under its name, with its arguments, in the file under which it is listed."""
+
+    def test_functions(self):
+        for module, functions in FUNCTIONS.items():
+            for name, arguments in functions.items():
+                function = getattr(module, name)
+                self.assertEqual(function.__module__, module.__name__)
+                self.assertEqual(list(inspect.signature(function).parameters), arguments, name)
+
+    def test_classes_and_their_methods(self):
+        for module, classes in CLASSES.items():
+            for name, methods in classes.items():
+                self.assertEqual(getattr(module, name).__module__, module.__name__)
+                for method in methods:
+                    self.assertIn(method, vars(getattr(module, name)))
+
+    def test_arguments_of_the_graph(self):
+        graph = graphs.Graph
+        self.assertEqual(list(inspect.signature(graph).parameters), ["nodes", "edges"])
+        self.assertIsInstance(graph.many, property)
+        for method, arguments in (("neighbours", ["v"]), ("degree", ["v"]), ("adjacent", ["u", "v"]),
+                                  ("induced", ["nodes"]), ("without", ["nodes"]), ("complement", [])):
+            self.assertEqual(list(inspect.signature(getattr(graph, method)).parameters), ["self"] + arguments)
+
+
+if __name__ == "__main__":
+    unittest.main()
