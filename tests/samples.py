@@ -3,7 +3,8 @@
 import random
 from itertools import combinations, permutations
 
-from cherrystone.graphs import Graph
+from cherrystone.graphs import Graph, make_graph
+from cherrystone.hitting import Family
 
 
 def pairs_of(many):
@@ -126,3 +127,75 @@ def orders(nodes):
     for size in range(len(nodes) + 1):
         for chosen in permutations(nodes, size):
             yield list(chosen)
+
+
+def components_by_eye(graph, barred=()):
+    """The components of the graph without the barred nodes, as sets."""
+    parts = []
+    for v in range(graph.nodes):
+        if v not in barred and not any(v in part for part in parts):
+            parts.append(found_from(graph, [v], barred))
+    return parts
+
+
+def forest_by_eye(graph, barred=()):
+    """Whether the graph without the barred nodes has no cycle: one edge less than nodes in each component."""
+    left = [pair for pair in graph.edges if not set(pair) & set(barred)]
+    return len(left) == sum(len(part) - 1 for part in components_by_eye(graph, barred))
+
+
+def petersen():
+    """Petersen's graph: ten nodes with three neighbours each, and no cycle of less than five nodes."""
+    outer = [tuple(sorted((v, (v + 1) % 5))) for v in range(5)]
+    inner = [tuple(sorted((5 + v, 5 + (v + 2) % 5))) for v in range(5)]
+    return Graph(10, sorted(outer + inner + [(v, v + 5) for v in range(5)]))
+
+
+def clique(many):
+    return Graph(many, pairs_of(many))
+
+
+def apart(*graphs):
+    """The graph that consists of the graphs side by side."""
+    edges, first = [], 0
+    for graph in graphs:
+        edges += [(u + first, v + first) for u, v in graph.edges]
+        first += graph.nodes
+    return Graph(first, edges)
+
+
+def not_numbers(low, high):
+    """Values that are no integer from low to high."""
+    return [low - 1, high + 1, high + 1000, -10 ** 30, 10 ** 30, True, False, None, "", str(low), float(low + 1), b"1",
+            (), (low,), [], [low], {}, set(), object(), len]
+
+
+def drawn_family(size, many, sizes, seed):
+    """A family of at most so many sets of such sizes; the same one in each run."""
+    source = random.Random(seed)
+    drawn = [tuple(sorted(source.sample(range(size), source.choice(sizes)))) for _ in range(many)]
+    return Family(size, sorted(set(drawn)))
+
+
+def large_families():
+    """Families of 40 elements and up to 300 sets."""
+    yield Family(40, [])
+    yield Family(40, [()])
+    yield Family(40, [(v,) for v in range(40)])
+    yield Family(40, sorted(combinations(range(25), 2)))
+    yield Family(40, sorted(combinations(range(40), 2))[:300])
+    yield Family(40, sorted(combinations(range(10), 8)) + sorted(combinations(range(10, 20), 8)))
+    yield Family(40, [tuple(range(v, v + 8)) for v in range(33)])
+    for seed in range(4):
+        for sizes in ((1, 2), (2,), (3,), (4, 5), (6, 7, 8), (8,), (0, 1, 2, 3, 4, 5, 6, 7, 8)):
+            yield drawn_family(40, 300, sizes, seed)
+            yield drawn_family(14, 300, sizes, seed)
+
+
+def hung(source, many, size, thin):
+    """A graph with so many nodes and a meeting set of so many of them: (graph, meeting set)."""
+    nodes = source.sample(range(many), many)
+    met, others = nodes[:size], nodes[size:]
+    pairs = [(v, source.choice(others[max(0, k - 4):k])) for k, v in enumerate(others) if k and source.random() < 0.9]
+    pairs += [(u, v) for u in met for v in nodes if u != v and source.random() < thin]
+    return make_graph(many, pairs), sorted(met)

@@ -1,7 +1,7 @@
 import inspect
 import unittest
 
-from cherrystone import errors, graphs, ways
+from cherrystone import covers, cycles, errors, graphs, hitting, matching, ways
 
 FUNCTIONS = {
     graphs: {
@@ -15,12 +15,32 @@ FUNCTIONS = {
         "separates": ["graph", "first", "second", "nodes"], "ways_between": ["graph", "u", "v"],
         "farthest": ["graph", "first", "second"], "connectivity": ["graph"],
     },
+    matching: {
+        "is_matching": ["graph", "edges"], "deficiency": ["graph", "nodes"], "greatest_matching": ["graph"],
+        "parts": ["graph"], "augment": ["graph", "edges"],
+    },
+    covers: {
+        "is_cover": ["graph", "nodes"], "are_halves": ["graph", "cover", "matching"],
+        "is_crown": ["graph", "free", "head", "matching"], "halves": ["graph"], "cover_kernel": ["graph", "k"],
+        "refuses_cover": ["graph", "k", "matching"], "lift_cover": ["graph", "kernel", "nodes"],
+        "least_cover": ["graph"], "crown": ["graph"],
+    },
+    hitting: {
+        "hits": ["family", "chosen"], "is_sunflower": ["family", "core", "petals"], "sunflower": ["family", "p"],
+        "hitting_kernel": ["family", "k"], "least_hitting_set": ["family"],
+    },
+    cycles: {
+        "meets_cycles": ["graph", "nodes"], "are_disjoint_cycles": ["graph", "cycles"], "cycle_kernel": ["graph"],
+        "lift_meeting": ["graph", "kernel", "nodes"], "least_meeting": ["graph"], "cycles_or_nodes": ["graph", "k"],
+        "compress": ["graph", "nodes"],
+    },
 }
 CLASSES = {
     errors: {name: [] for name in ("CherrystoneError", "BadGraph", "BadFamily", "BadArgument", "BadText", "TooLarge",
                                    "BadLine")},
     graphs: {"Graph": ["__init__", "__eq__", "neighbours", "degree", "adjacent", "induced", "without", "complement",
                        "many"]},
+    hitting: {"Family": ["__init__", "__eq__"]},
 }
 
 
@@ -41,7 +61,8 @@ class Interface(unittest.TestCase):
                 for method in methods:
                     self.assertIn(method, vars(getattr(module, name)))
 
-    def test_arguments_of_the_graph(self):
+    def test_arguments_of_the_classes(self):
+        self.assertEqual(list(inspect.signature(hitting.Family).parameters), ["size", "sets"])
         graph = graphs.Graph
         self.assertEqual(list(inspect.signature(graph).parameters), ["nodes", "edges"])
         self.assertIsInstance(graph.many, property)

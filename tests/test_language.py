@@ -135,6 +135,15 @@ class Language(unittest.TestCase):
                 if getattr(mark, "id", getattr(mark, "attr", None)) not in DECORATORS:
                     self.fail_at("L4", name, node)
 
+    def test_exponents(self):
+        for name, node, _ in nodes(ast.FunctionDef):
+            loops = [part for part in ast.walk(node) if isinstance(part, ast.For) and called(part.iter) == "range"]
+            plain = {part.target.id for part in loops if all(isinstance(end, ast.Constant) for end in part.iter.args)}
+            for part in ast.walk(node):
+                if isinstance(part, ast.BinOp) and isinstance(part.op, ast.Pow):
+                    if not isinstance(part.right, ast.Constant) and getattr(part.right, "id", None) not in plain:
+                        self.fail_at("L27", name, part)
+
     def test_names(self):
         for name, node, bound in bound_names():
             if bound in dir(builtins) or bound in BARRED or DUNDERS.match(bound):
