@@ -2,7 +2,7 @@
 
 from cherrystone.checks import is_number, is_pair
 from cherrystone.errors import BadArgument, BadGraph, BadText
-from cherrystone.masks import count_of, full_mask, mask_of, nodes_of, reached, short_path
+from cherrystone.masks import count_of, full_mask, mask_of, nodes_of, pieces, short_path
 
 MOST_NODES = 40
 
@@ -119,13 +119,7 @@ def is_cycle(graph, nodes):
 
 def components(graph):
     """The components as ascending lists, in the order of their first nodes."""
-    parts = []
-    left = full_mask(graph.nodes)
-    while left:
-        part = reached(graph.masks, left & -left, left)
-        parts.append(nodes_of(part))
-        left -= part
-    return parts
+    return [nodes_of(part) for part in pieces(graph.masks, full_mask(graph.nodes))]
 
 
 def distances(graph, v):

@@ -51,6 +51,17 @@ def reached(links, starts, allowed):
     return found
 
 
+def pieces(links, allowed):
+    """The masks of the components that the allowed nodes form, in the order of their first nodes."""
+    found = []
+    left = allowed
+    while left:
+        piece = reached(links, left & -left, left)
+        found.append(piece)
+        left -= piece
+    return found
+
+
 def short_path(links, starts, goals, allowed):
     """A shortest path of allowed nodes from some start to some goal, as a list, or None."""
     layers = [starts & allowed]

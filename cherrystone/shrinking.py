@@ -22,12 +22,16 @@ class Rest:
         self.near[v] = 0
         self.left -= 1 << v
 
+    def connect(self, u, v):
+        """Adds an edge between two nodes."""
+        self.near[u] |= 1 << v
+        self.near[v] |= 1 << u
+
     def bypass(self, v, a, b):
         """Removes a node with the two neighbours a and b, which are not adjacent, and joins these."""
         path = self.inner.get((a, v), []) + [v] + self.inner.get((v, b), [])
         self.drop(v)
-        self.near[a] |= 1 << b
-        self.near[b] |= 1 << a
+        self.connect(a, b)
         self.inner[a, b] = path
         self.inner[b, a] = path[::-1]
 

@@ -1,7 +1,7 @@
 import inspect
 import unittest
 
-from cherrystone import covers, cycles, errors, graphs, hitting, matching, ways
+from cherrystone import clusters, colourful, covers, cycles, errors, graphs, hitting, matching, places, ways, widths
 
 FUNCTIONS = {
     graphs: {
@@ -33,6 +33,30 @@ FUNCTIONS = {
         "meets_cycles": ["graph", "nodes"], "are_disjoint_cycles": ["graph", "cycles"], "cycle_kernel": ["graph"],
         "lift_meeting": ["graph", "kernel", "nodes"], "least_meeting": ["graph"], "cycles_or_nodes": ["graph", "k"],
         "compress": ["graph", "nodes"],
+    },
+    clusters: {
+        "is_clustering": ["graph", "clusters"], "are_conflicts": ["graph", "conflicts"], "cost": ["graph", "clusters"],
+        "pack_conflicts": ["graph"], "classes": ["graph"], "cluster_kernel": ["graph", "k"],
+        "refuses_clusters": ["graph", "k", "paper"], "lift_clusters": ["graph", "k", "clusters"],
+        "least_clusters": ["graph"],
+    },
+    colourful: {
+        "is_colouring": ["n", "k", "colouring"], "is_separating": ["n", "k", "family"],
+        "is_colourful": ["graph", "colouring", "k", "nodes"], "colourful_path": ["graph", "colouring", "k"],
+        "colourful_count": ["graph", "colouring", "k"], "separating_family": ["n", "k"],
+        "path_or_paper": ["graph", "k"], "refuses_path": ["graph", "k", "family"], "longest_path": ["graph"],
+        "path_kernel": ["graph", "cover"], "lift_path": ["graph", "cover", "path"],
+    },
+    places: {
+        "are_places": ["graph", "places"], "is_cutting": ["graph", "places", "nodes"],
+        "refuses_cut": ["graph", "places", "k", "index", "ways"], "strength": ["graph", "places", "index"],
+        "grow": ["graph", "places"], "cut": ["graph", "places"], "cut_or_paper": ["graph", "places", "k"],
+    },
+    widths: {
+        "is_decomposition": ["graph", "decomposition"], "is_refuge": ["graph", "k", "positions"],
+        "refuses_width": ["graph", "w", "trace", "clique"], "width_of": ["graph", "decomposition"],
+        "eliminate": ["graph", "order"], "best_decomposition": ["graph"], "greatest_refuge": ["graph", "k"],
+        "width_kernel": ["graph", "cover", "w"], "lift_decomposition": ["graph", "kernel", "decomposition"],
     },
 }
 CLASSES = {

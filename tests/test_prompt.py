@@ -2,8 +2,8 @@ import random
 import time
 import unittest
 
-from cherrystone import covers, cycles, graphs, hitting, matching, ways
-from tests.samples import apart, clique, drawn, hung, large_families, large_graphs, petersen, ring, two_sides
+from cherrystone import clusters, colourful, covers, cycles, graphs, hitting, matching, places, ways, widths
+from tests.samples import apart, clique, drawn, grid, hung, large_families, large_graphs, petersen, ring, two_sides
 
 MOST_SECONDS = 5
 
@@ -98,6 +98,81 @@ class Prompt(unittest.TestCase):
                 clique(14), ring(14), ring(14, 2), ring(14, 3), two_sides(7, 7), apart(petersen(), clique(4))]:
             self.timed(covers.least_cover, graph)
             self.timed(cycles.least_meeting, graph)
+
+    def test_clusters(self):
+        for graph in large_graphs():
+            self.timed(clusters.pack_conflicts, graph)
+            self.timed(clusters.are_conflicts, graph, clusters.pack_conflicts(graph))
+            self.timed(clusters.classes, graph)
+            self.timed(clusters.cost, graph, [[v] for v in range(40)])
+            for k in (0, 1, 10, 20):
+                kernel, paper = self.timed(clusters.cluster_kernel, graph, k)
+                self.timed(clusters.refuses_clusters, graph, k, paper)
+                if kernel is not None:
+                    parts = graphs.components(kernel[0])
+                    if clusters.cost(kernel[0], parts) <= k:
+                        self.timed(clusters.lift_clusters, graph, k, parts)
+        for graph in [drawn(9, percent, seed) for percent in range(10, 100, 10) for seed in range(3)] + [
+                clique(9), ring(9), ring(9, 2), grid(3, 3), two_sides(4, 5), petersen().without([0])]:
+            self.timed(clusters.least_clusters, graph)
+
+    def test_colourful_paths(self):
+        for graph in large_graphs():
+            for k in range(1, 8):
+                colours = [v * v % k for v in range(40)]
+                self.timed(colourful.colourful_path, graph, colours, k)
+                self.timed(colourful.colourful_count, graph, [v % k for v in range(40)], k)
+            for cover in (list(range(40)), list(range(20)), list(range(0, 40, 2))):
+                if covers.is_cover(graph, cover):
+                    self.timed(colourful.path_kernel, graph, cover)
+        for n, k in ((40, 1), (40, 2), (23, 3), (16, 4), (13, 5), (13, 6), (13, 7)):
+            family = self.timed(colourful.separating_family, n, k)
+            self.timed(colourful.is_separating, n, k, family)
+            for graph in (graphs.Graph(n, []), clique(n), ring(n), two_sides(3, n - 3), drawn(n, 15, 1)):
+                self.timed(colourful.path_or_paper, graph, k)
+                self.timed(colourful.refuses_path, graph, k, family)
+        for graph in (clique(13), ring(13), two_sides(6, 7), two_sides(3, 10), drawn(13, 30, 1), drawn(13, 60, 1)):
+            self.timed(colourful.longest_path, graph)
+
+    def test_places(self):
+        for graph in large_graphs():
+            for told in ([[0], [39]], [[0, 1], [20], [38, 39]], [[v] for v in range(0, 40, 3)]):
+                if places.are_places(graph, told):
+                    self.timed(places.grow, graph, told)
+                    ways_out, _ = self.timed(places.strength, graph, told, 0)
+                    k = max(0, len(ways_out) - 1)
+                    self.timed(places.refuses_cut, graph, told, k, 0, ways_out)
+                    if ways_out:
+                        self.timed(places.cut_or_paper, graph, told, k)
+                    self.timed(places.is_cutting, graph, told, [])
+        source = random.Random(2)
+        for many in (2, 3, 6, 12, 28):
+            for percent in (10, 20, 40, 70):
+                pairs = [(u, v) for u in range(12) for v in range(u + 1, 12 + many) if source.random() * 100 < percent]
+                graph, told = graphs.Graph(12 + many, pairs), [[v] for v in range(12, 12 + many)]
+                self.timed(places.cut, graph, told)
+                self.timed(places.cut_or_paper, graph, told, 12)
+
+    def test_widths(self):
+        for graph in large_graphs():
+            told = self.timed(widths.eliminate, graph, list(range(40)))
+            self.timed(widths.is_decomposition, graph, told)
+            self.timed(widths.width_of, graph, told)
+            for cover in (list(range(40)), list(range(20)), list(range(0, 40, 2)), [0, 1, 2]):
+                for w in (0, 2, 9):
+                    if covers.is_cover(graph, cover):
+                        kernel, paper = self.timed(widths.width_kernel, graph, cover, w)
+                        if paper is not None:
+                            self.timed(widths.refuses_width, graph, w, *paper)
+                        else:
+                            told = widths.eliminate(kernel[0], list(range(kernel[0].nodes)))
+                            self.timed(widths.lift_decomposition, graph, kernel, told)
+        for graph in [drawn(10, percent, 1) for percent in range(10, 100, 10)] + [clique(10), petersen(), ring(10, 2)]:
+            self.timed(widths.best_decomposition, graph)
+            small = graph.without([4, 9])
+            for k in range(10):
+                told = self.timed(widths.greatest_refuge, small, k)
+                self.timed(widths.is_refuge, small, k, told)
 
 
 if __name__ == "__main__":
