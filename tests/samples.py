@@ -199,3 +199,31 @@ def hung(source, many, size, thin):
     pairs = [(v, source.choice(others[max(0, k - 4):k])) for k, v in enumerate(others) if k and source.random() < 0.9]
     pairs += [(u, v) for u in met for v in nodes if u != v and source.random() < thin]
     return make_graph(many, pairs), sorted(met)
+
+
+def patched(source, many, size, thin):
+    """A graph and an odd set of it with so many nodes: (graph, nodes)."""
+    nodes = source.sample(range(many), many)
+    side = {v: source.randrange(2) for v in nodes}
+    met = nodes[:size]
+    pairs = [(u, v) for u, v in combinations(range(many), 2)
+             if source.random() < thin and (side[u] != side[v] or u in met or v in met)]
+    return make_graph(many, pairs), sorted(met)
+
+
+def wide_decompositions():
+    """Graphs with 40 nodes and decompositions of them, with bags of six nodes and some bags twice."""
+    source = random.Random(1)
+    for percent in (0, 10, 20, 40, 70, 100):
+        for reach in (1, 3, 40):
+            bags, links, edges = [list(range(6))], [], []
+            for v in range(6, 40):
+                at = source.randrange(max(0, len(bags) - reach), len(bags))
+                five = sorted(source.sample(bags[at], 5))
+                edges += [(u, v) for u in five if source.random() * 100 < percent]
+                links.append((at, len(bags)))
+                bags.append(five + [v])
+            for at in range(0, len(bags), 2):
+                links.append((at, len(bags)))
+                bags.append(list(bags[at]))
+            yield Graph(40, sorted(edges)), (bags, sorted(links))

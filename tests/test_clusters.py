@@ -96,7 +96,8 @@ class Clusterings(unittest.TestCase):
             self.assertIs(is_clustering(graph, value), False, value)
             self.assertIs(is_clustering(graph, [value]), False, value)
             self.assertIs(is_clustering(graph, [[0], value, [1, 2]]), False, value)
-        for value in (([0], [1, 2]), [(0,), (1, 2)], [[0], (1, 2)], {0: [0], 1: [1, 2]}, [[0], [True, 2]], [[0], [1.0, 2]],
+        for value in (([0], [1, 2]), [(0,), (1, 2)], [[0], (1, 2)], {0: [0], 1: [1, 2]}, [[0], [True, 2]],
+                      [[0], [1.0, 2]],
                       [[False], [1, 2]], [["0"], ["1", "2"]], [{0}, {1, 2}], [[[0]], [[1, 2]]], iter([[0, 1, 2]])):
             self.assertIs(is_clustering(graph, value), False, value)
 
@@ -357,7 +358,8 @@ class Lifts(unittest.TestCase):
         right = [[0, 1, 2], [3, 4, 5]]
         self.assertEqual(lift_clusters(CHAIN, 1, right), right + [[6, 7, 8], [9]])
         self.assertEqual(small.nodes, 6)
-        for value in wrong_values() + [[], [[0, 1, 2, 3, 4, 5]], right + [[6, 7, 8], [9]], [[3, 4, 5], [0, 1, 2]], [[0, 1, 2]],
+        for value in wrong_values() + [[], [[0, 1, 2, 3, 4, 5]], right + [[6, 7, 8], [9]], [[3, 4, 5], [0, 1, 2]],
+                                       [[0, 1, 2]],
                                        [(0, 1, 2), (3, 4, 5)], ([0, 1, 2], [3, 4, 5]), [[0, 1, 2], [3, 4, 5.0]]]:
             with self.assertRaises(BadArgument, msg=value):
                 lift_clusters(CHAIN, 1, value)
@@ -417,7 +419,8 @@ class LeftAsTheyWere(unittest.TestCase):
         small = CHAIN.induced(list(range(6)))
         for call in (lambda: [pack_conflicts(CHAIN)], lambda: [classes(CHAIN)] + classes(CHAIN),
                      lambda: [cluster_kernel(CHAIN, 0)[1]] + cluster_kernel(CHAIN, 0)[1],
-                     lambda: [cluster_kernel(CHAIN, 1)[0][1]], lambda: [least_clusters(small)[1]] + least_clusters(small)[1],
+                     lambda: [cluster_kernel(CHAIN, 1)[0][1]],
+                     lambda: [least_clusters(small)[1]] + least_clusters(small)[1],
                      lambda: lift_clusters(CHAIN, 1, [[0, 1, 2], [3, 4, 5]])):
             before = call()
             for told in call():

@@ -1,9 +1,10 @@
 import random
 import unittest
-from itertools import combinations, permutations, product
+from itertools import combinations, product
 from math import comb
 
-from cherrystone.colourful import (colourful_count, colourful_path, is_colourful, is_colouring, is_separating, lift_path,
+from cherrystone.colourful import (colourful_count, colourful_path, is_colourful, is_colouring, is_separating,
+                                   lift_path,
                                    longest_path, path_kernel, path_or_paper, refuses_path, separating_family)
 from cherrystone.errors import BadArgument, TooLarge
 from cherrystone.graphs import Graph
@@ -39,7 +40,8 @@ def longest_by_eye(graph):
 
 
 def separating_by_eye(n, k, family):
-    return all(any(len({colours[v] for v in chosen}) == k for colours in family) for chosen in combinations(range(n), k))
+    return all(any(len({colours[v] for v in chosen}) == k for colours in family) for chosen in combinations(range(n),
+                                                                                                            k))
 
 
 def most_colourings(n, k):
@@ -245,7 +247,8 @@ class PathsOrPapers(unittest.TestCase):
             self.assertIs(refuses_path(graph, k, told), True)
 
     def test_small_graphs(self):
-        for graph in list(all_graphs(4)) + list(drawn_graphs(6, 3)) + [KITE, grid(2, 3), two_sides(1, 6), two_sides(2, 5)]:
+        for graph in list(all_graphs(4)) + list(drawn_graphs(6, 3)) + [KITE, grid(2, 3), two_sides(1, 6),
+                                                                       two_sides(2, 5)]:
             for k in range(1, 8):
                 self.right(graph, k)
 
@@ -448,7 +451,8 @@ class LeftAsTheyWere(unittest.TestCase):
 
     def test_lists_are_new(self):
         for call in (lambda: [separating_family(5, 2)] + separating_family(5, 2), lambda: [longest_path(KITE)],
-                     lambda: [path_or_paper(KITE, 3)[1]], lambda: [path_or_paper(KITE, 7)[1]] + path_or_paper(KITE, 7)[1],
+                     lambda: [path_or_paper(KITE, 3)[1]], lambda: [path_or_paper(KITE, 7)[1]] + path_or_paper(KITE,
+                                                                                                              7)[1],
                      lambda: [path_kernel(KITE, [1, 3, 4])[1]], lambda: [colourful_path(KITE, [0] * 7, 1)]):
             before = call()
             for told in call():

@@ -1,7 +1,8 @@
 import inspect
 import unittest
 
-from cherrystone import clusters, colourful, covers, cycles, errors, graphs, hitting, matching, places, ways, widths
+from cherrystone import (clusters, colourful, covers, cycles, desk, errors, graphs, hitting, matching, odd, places,
+                         reductions, tables, ways, widths)
 
 FUNCTIONS = {
     graphs: {
@@ -58,6 +59,22 @@ FUNCTIONS = {
         "eliminate": ["graph", "order"], "best_decomposition": ["graph"], "greatest_refuge": ["graph", "k"],
         "width_kernel": ["graph", "cover", "w"], "lift_decomposition": ["graph", "kernel", "decomposition"],
     },
+    tables: {
+        "independent_counts": ["graph", "decomposition"], "colouring_count": ["graph", "decomposition", "q"],
+        "least_domination": ["graph", "decomposition"],
+    },
+    odd: {
+        "is_odd_set": ["graph", "nodes"], "are_odd_cycles": ["graph", "cycles"],
+        "refuses_odd": ["graph", "nodes", "rows"], "fewer_odd": ["graph", "nodes"], "least_odd_set": ["graph"],
+    },
+    reductions: {
+        "is_independent": ["graph", "nodes"], "is_clique": ["graph", "nodes"], "is_dominating": ["graph", "nodes"],
+        "is_coloured_clique": ["graph", "k", "nodes"], "other_nodes": ["graph", "nodes"],
+        "coloured_copies": ["graph", "k"], "to_copies": ["graph", "k", "clique"],
+        "from_copies": ["graph", "k", "nodes"], "domination_graph": ["family"], "to_domination": ["family", "chosen"],
+        "from_domination": ["family", "nodes"], "cycle_graph": ["graph"], "to_cycles": ["graph", "nodes"],
+        "from_cycles": ["graph", "nodes"],
+    },
 }
 CLASSES = {
     errors: {name: [] for name in ("CherrystoneError", "BadGraph", "BadFamily", "BadArgument", "BadText", "TooLarge",
@@ -65,6 +82,7 @@ CLASSES = {
     graphs: {"Graph": ["__init__", "__eq__", "neighbours", "degree", "adjacent", "induced", "without", "complement",
                        "many"]},
     hitting: {"Family": ["__init__", "__eq__"]},
+    desk: {"Desk": ["do"]},
 }
 
 
@@ -87,6 +105,8 @@ class Interface(unittest.TestCase):
 
     def test_arguments_of_the_classes(self):
         self.assertEqual(list(inspect.signature(hitting.Family).parameters), ["size", "sets"])
+        self.assertEqual(list(inspect.signature(desk.Desk).parameters), [])
+        self.assertEqual(list(inspect.signature(desk.Desk.do).parameters), ["self", "line"])
         graph = graphs.Graph
         self.assertEqual(list(inspect.signature(graph).parameters), ["nodes", "edges"])
         self.assertIsInstance(graph.many, property)

@@ -5,8 +5,8 @@ from itertools import combinations, permutations
 from cherrystone.errors import BadArgument, TooLarge
 from cherrystone.graphs import Graph
 from cherrystone.places import are_places, cut, cut_or_paper, grow, is_cutting, refuses_cut, strength
-from tests.samples import all_graphs, clique, drawn, drawn_graphs, found_from, grid, large_graphs, near_sets
-from tests.samples import not_numbers, path_by_eye, petersen, ring, subsets, two_sides, wrong_values
+from tests.samples import all_graphs, clique, drawn_graphs, found_from, grid, large_graphs, near_sets, not_numbers
+from tests.samples import path_by_eye, ring, subsets, two_sides, wrong_values
 
 # Three rows of four nodes: the corners of the upper row and the lower row's first one are places.
 ROWS = grid(3, 4)
@@ -110,10 +110,12 @@ class Places(unittest.TestCase):
                     self.assertIs(are_places(graph, list(places)), are_places_by_eye(graph, places), places)
 
     def test_by_example(self):
-        for places, right in ((CORNERS, True), (CORNERS[::-1], True), ([[0, 1], [3], [8]], True), ([[0, 1], [2]], False),
+        for places, right in ((CORNERS, True), (CORNERS[::-1], True), ([[0, 1], [3], [8]], True),
+                              ([[0, 1], [2]], False),
                               ([[0, 10], [3]], True), ([[0], [0]], False), ([[0, 2], [5, 7]], True), ([[0]], False),
                               ([[0], []], False), ([], False), ([[0], [3], [4]], False), ([[1, 0], [3]], False),
-                              ([[0], [12]], False), ([[0], [3, 3]], False), ([[], []], False), ([[0, 5], [5, 10]], False)):
+                              ([[0], [12]], False), ([[0], [3, 3]], False), ([[], []], False),
+                              ([[0, 5], [5, 10]], False)):
             self.assertIs(are_places(ROWS, places), right, places)
         self.assertIs(are_places(Graph(40, []), [[v] for v in range(40)]), True)
         self.assertIs(are_places(Graph(0, []), []), False)
@@ -124,7 +126,8 @@ class Places(unittest.TestCase):
             self.assertIs(are_places(ROWS, [value]), False, value)
             self.assertIs(are_places(ROWS, [[3], value]), False, value)
             self.assertIs(are_places(ROWS, [value, [3], [8]]), False, value)
-        for value in ([(0,), (3,)], ([0], [3]), [{0}, {3}], {0: [0], 1: [3]}, [[False], [3]], [[0.0], [3]], [["0"], ["3"]],
+        for value in ([(0,), (3,)], ([0], [3]), [{0}, {3}], {0: [0], 1: [3]}, [[False], [3]], [[0.0], [3]],
+                      [["0"], ["3"]],
                       [0, 3], [[[0]], [[3]]], iter([[0], [3]]), "03"):
             self.assertIs(are_places(ROWS, value), False, value)
 
@@ -150,11 +153,13 @@ class CuttingSets(unittest.TestCase):
     def test_values_of_all_kinds(self):
         right = [1, 2, 4, 7]
         self.assertIs(is_cutting(ROWS, CORNERS, right), True)
-        for value in wrong_values() + [tuple(right), set(right), [1, 2, 4, 7.0], [True, 2, 4, 7], [1, 2, 4, "7"], [right]]:
+        for value in wrong_values() + [tuple(right), set(right), [1, 2, 4, 7.0], [True, 2, 4, 7], [1, 2, 4, "7"],
+                                       [right]]:
             self.assertIs(is_cutting(ROWS, CORNERS, value), False, value)
 
     def test_what_are_no_places(self):
-        for value in wrong_values() + [[], [[0]], [[0], [1]], [[0], []], [[0], [0]], ([0], [3]), [(0,), (3,)], [[0], [12]]]:
+        for value in wrong_values() + [[], [[0]], [[0], [1]], [[0], []], [[0], [0]], ([0], [3]), [(0,), (3,)],
+                                       [[0], [12]]]:
             for nodes in ([], [1, 2, 4, 7], None):
                 with self.assertRaises(BadArgument, msg=value):
                     is_cutting(ROWS, value, nodes)
@@ -259,7 +264,8 @@ class Growing(unittest.TestCase):
                     self.assertIs(are_places(graph, told), True)
                     for index, place in enumerate(places):
                         self.assertTrue(set(place) <= set(told[index]))
-                        self.assertEqual(len(borders_by_eye(graph, told, index)[0]), len(strength(graph, told, index)[0]))
+                        self.assertEqual(len(borders_by_eye(graph, told, index)[0]),
+                                         len(strength(graph, told, index)[0]))
 
     def test_what_are_no_places(self):
         for value in wrong_values() + [[], [[0]], [[0], [1]], [[0], []], ([0], [3]), [(0,), (3,)]]:
@@ -377,8 +383,10 @@ class Refusals(unittest.TestCase):
         self.assertIs(refuses_cut(ROWS, [[0], [3]], 0, 1, ways), False)
         self.assertIs(refuses_cut(ROWS, [[0], [3]], 0, 1, [way[::-1] for way in ways]), True)
         for spoilt in (ways[:1], [[1, 2], [1, 2]], [[1, 2], [4, 5, 6]], [[1, 2], [5, 6, 7]], [[1, 2], [4, 6, 7]],
-                       [[1, 2], [7, 6, 5, 4]], [[1, 2], [4, 5, 6, 2]], [[0, 1, 2], [4, 5, 6, 7]], [[1, 2, 3], [4, 5, 6, 7]],
-                       [[1, 2], [4, 5, 1, 2]], [(1, 2), (4, 5, 6, 7)], ([1, 2], [4, 5, 6, 7]), [[1, 2], []], [], [[], []],
+                       [[1, 2], [7, 6, 5, 4]], [[1, 2], [4, 5, 6, 2]], [[0, 1, 2], [4, 5, 6, 7]],
+                       [[1, 2, 3], [4, 5, 6, 7]],
+                       [[1, 2], [4, 5, 1, 2]], [(1, 2), (4, 5, 6, 7)], ([1, 2], [4, 5, 6, 7]), [[1, 2], []], [],
+                       [[], []],
                        [[True, 2], [4, 5, 6, 7]], [[1, 2.0], [4, 5, 6, 7]], [["1", "2"], [4, 5, 6, 7]], None,
                        [[1, 2], [4, 8, 9, 10, 11, 7, 6]], [[1, 2], [4, 5, 6, 7, 12]], {0: [1, 2], 1: [4, 5, 6, 7]}):
             self.assertIs(refuses_cut(ROWS, [[0], [3]], 1, 0, spoilt), False, spoilt)

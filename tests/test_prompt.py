@@ -2,8 +2,10 @@ import random
 import time
 import unittest
 
-from cherrystone import clusters, colourful, covers, cycles, graphs, hitting, matching, places, ways, widths
-from tests.samples import apart, clique, drawn, grid, hung, large_families, large_graphs, petersen, ring, two_sides
+from cherrystone import (clusters, colourful, covers, cycles, desk, graphs, hitting, matching, odd, places, reductions,
+                         tables, ways, widths)
+from tests.samples import (apart, clique, drawn, grid, hung, large_families, large_graphs, patched, petersen, ring,
+                           two_sides, wide_decompositions)
 
 MOST_SECONDS = 5
 
@@ -173,6 +175,54 @@ class Prompt(unittest.TestCase):
             for k in range(10):
                 told = self.timed(widths.greatest_refuge, small, k)
                 self.timed(widths.is_refuge, small, k, told)
+
+    def test_tables(self):
+        for graph, told in wide_decompositions():
+            self.timed(tables.independent_counts, graph, told)
+            for q in range(5):
+                self.timed(tables.colouring_count, graph, told, q)
+            self.timed(tables.least_domination, graph, told)
+
+    def test_odd_sets(self):
+        for graph in large_graphs():
+            self.timed(odd.is_odd_set, graph, [])
+            self.timed(odd.are_odd_cycles, graph, [list(range(39))])
+        source = random.Random(3)
+        cases = [patched(source, 40, 5, percent / 100) for percent in (5, 10, 20, 40, 70, 100) for _ in range(5)]
+        for graph, nodes in cases + [(clique(7), [0, 1, 2, 3, 4]), (apart(*[clique(3)] * 5), [0, 3, 6, 9, 12])]:
+            _, rows = self.timed(odd.fewer_odd, graph, nodes)
+            self.timed(odd.refuses_odd, graph, nodes, rows)
+        for graph in [drawn(13, percent, 1) for percent in range(10, 100, 10)] + [clique(13), ring(13),
+                                                                                  two_sides(6, 7)]:
+            self.timed(odd.least_odd_set, graph)
+
+    def test_reductions(self):
+        for graph in large_graphs():
+            nodes = list(range(40))
+            for call in (reductions.is_independent, reductions.is_clique, reductions.is_dominating,
+                         reductions.other_nodes):
+                self.timed(call, graph, nodes)
+            self.timed(reductions.coloured_copies, graph, 1)
+        for many, k in ((5, 8), (20, 2), (40, 1)):
+            self.timed(reductions.coloured_copies, clique(many), k)
+            nodes = self.timed(reductions.to_copies, clique(many), k, list(range(k))) if many >= k else []
+            self.timed(reductions.is_coloured_clique, clique(many), k, nodes)
+        for graph in (clique(8), ring(20), graphs.Graph(40, [])):
+            self.timed(reductions.cycle_graph, graph)
+            self.timed(reductions.from_cycles, graph, self.timed(reductions.to_cycles, graph, list(range(graph.nodes))))
+        family = hitting.Family(10, [(v, v + 1) for v in range(9)])
+        self.timed(reductions.domination_graph, family)
+        self.timed(reductions.from_domination, family, self.timed(reductions.to_domination, family, list(range(10))))
+
+    def test_the_desk(self):
+        counts = ("components", "matching", "cover", "meeting", "clusters", "path", "width", "odd")
+        for graph in list(large_graphs()) + [clique(many) for many in (9, 10, 13, 14)] + [
+                drawn(many, percent, 1) for many in (9, 10, 13, 14) for percent in (20, 40, 60, 80)]:
+            keeper = desk.Desk()
+            self.timed(keeper.do, "graph " + graphs.format_graph(graph))
+            for line in [f"count {word}" for word in counts] + [f"within path {k}" for k in range(1, 8)] + [
+                    "within cover 7", "complement", "show", "cycles"]:
+                self.timed(keeper.do, line)
 
 
 if __name__ == "__main__":

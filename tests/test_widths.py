@@ -136,10 +136,12 @@ class Decompositions(unittest.TestCase):
         for bags, links, right in (
                 ([[0, 1, 2, 3, 4]], [], True), (bags[::-1], [(0, 1), (1, 2)], True), (bags, [(0, 2), (1, 2)], False),
                 (bags, [(0, 1), (0, 2)], False), (bags, [(0, 1)], False), (bags, [(1, 2), (0, 1)], False),
-                (bags, [(0, 1), (0, 2), (1, 2)], False), (bags, [(0, 1), (2, 1)], False), (bags, [(0, 1), (1, 3)], False),
+                (bags, [(0, 1), (0, 2), (1, 2)], False), (bags, [(0, 1), (2, 1)], False),
+                (bags, [(0, 1), (1, 3)], False),
                 (bags, [(0, 1), (0, 1)], False), (bags, [], False), (bags + [[]], [(0, 1), (1, 2), (1, 3)], True),
                 (bags + [[]], [(0, 1), (1, 2)], False), (bags + [[2]], [(0, 1), (1, 2), (1, 3)], True),
-                (bags + [[2]], [(0, 1), (0, 3), (1, 2)], False), (bags + bags, [(0, 1), (0, 3), (1, 2), (1, 4), (2, 5)], True),
+                (bags + [[2]], [(0, 1), (0, 3), (1, 2)], False),
+                (bags + bags, [(0, 1), (0, 3), (1, 2), (1, 4), (2, 5)], True),
                 (bags + bags, [(0, 1), (0, 3), (1, 2), (1, 5), (2, 4)], False),
                 (bags + [bags[2]], [(0, 1), (1, 2), (2, 3)], True), (bags[:2] + [[2, 3]], links, False),
                 (bags[:2] + [[2, 3], [3, 4], [2, 4]], [(0, 1), (1, 2), (2, 3), (3, 4)], False),
@@ -151,7 +153,8 @@ class Decompositions(unittest.TestCase):
         self.assertIs(is_decomposition(Graph(0, []), ([[], []], [])), False)
         self.assertIs(is_decomposition(Graph(0, []), ([], [])), False)
         self.assertIs(is_decomposition(Graph(1, []), ([[]], [])), False)
-        self.assertIs(is_decomposition(Graph(40, []), ([[v] for v in range(40)], [(v, v + 1) for v in range(39)])), True)
+        self.assertIs(is_decomposition(Graph(40, []), ([[v] for v in range(40)], [(v, v + 1) for v in range(39)])),
+                      True)
 
     def test_drawn_bags_and_links(self):
         source = random.Random(1)
@@ -190,7 +193,8 @@ class Decompositions(unittest.TestCase):
     def test_values_of_all_kinds(self):
         bags, links = SPLIT
         for value in wrong_values():
-            for whole in (value, (value, value), (bags, value), (value, links), (bags + [value], links), (bags, links, value),
+            for whole in (value, (value, value), (bags, value), (value, links), (bags + [value], links),
+                          (bags, links, value),
                           (bags, links + [value]), (bags[:2] + [value], links), [bags, value]):
                 self.assertIs(is_decomposition(KITE, whole), False, whole)
         for whole in ([bags, links], (tuple(bags), links), (bags, tuple(links)), (bags, [list(pair) for pair in links]),
@@ -244,8 +248,10 @@ class Eliminations(unittest.TestCase):
                 self.right(graph, order)
 
     def test_what_is_no_order(self):
-        for value in wrong_values() + [[], [0, 1, 2, 3], [0, 1, 2, 3, 4, 5], [0, 1, 2, 3, 3], [0, 1, 2, 3, 5], (0, 1, 2, 3, 4),
-                                       [0, 1, 2, 3, 4.0], [0, True, 2, 3, 4], [0, 1, 2, 3, "4"], [0, 1, 2, 3, 4, 4], [-1, 0, 1, 2, 3]]:
+        for value in wrong_values() + [[], [0, 1, 2, 3], [0, 1, 2, 3, 4, 5], [0, 1, 2, 3, 3], [0, 1, 2, 3, 5],
+                                       (0, 1, 2, 3, 4),
+                                       [0, 1, 2, 3, 4.0], [0, True, 2, 3, 4], [0, 1, 2, 3, "4"], [0, 1, 2, 3, 4, 4],
+                                       [-1, 0, 1, 2, 3]]:
             with self.assertRaises(BadArgument, msg=value):
                 eliminate(KITE, value)
         for value in ([0], [[]], None):
@@ -260,13 +266,15 @@ class BestDecompositions(unittest.TestCase):
         return width_of(graph, told)
 
     def test_against_all_orders(self):
-        for graph, width in widths() + [(graph, width_by_eye(graph)) for graph in (ring(7), grid(2, 3), two_sides(3, 3))]:
+        for graph, width in widths() + [(graph, width_by_eye(graph)) for graph in (ring(7), grid(2, 3),
+                                                                                   two_sides(3, 3))]:
             self.assertEqual(self.right(graph), width)
 
     def test_10_nodes(self):
         for graph, width in ((Graph(10, []), 0), (clique(10), 9), (grid(1, 10), 1), (ring(10), 2), (two_sides(4, 6), 4),
                              (two_sides(5, 5), 5), (petersen(), 4), (grid(2, 5), 2), (grid(3, 3), 3), (ring(10, 2), 4),
-                             (apart(clique(5), ring(5)), 4), (two_sides(1, 9), 1), (Graph(1, []), 0), (Graph(0, []), -1)):
+                             (apart(clique(5), ring(5)), 4), (two_sides(1, 9), 1), (Graph(1, []), 0),
+                             (Graph(0, []), -1)):
             self.assertEqual(self.right(graph), width)
         for graph in drawn_graphs(10, 2):
             self.right(graph)
@@ -292,7 +300,8 @@ class Refuges(unittest.TestCase):
                     self.assertEqual(told, sorted(told))
 
     def test_8_nodes(self):
-        for graph in (clique(8), ring(8), ring(8, 2), grid(2, 4), two_sides(4, 4), petersen().without([3, 8]), Graph(8, []),
+        for graph in (clique(8), ring(8), ring(8, 2), grid(2, 4), two_sides(4, 4), petersen().without([3, 8]),
+                      Graph(8, []),
                       apart(clique(4), clique(4))):
             width = width_of(graph, best_decomposition(graph))
             for k in range(10):
@@ -311,7 +320,8 @@ class Refuges(unittest.TestCase):
             self.assertIsNone(greatest_refuge(Graph(0, []), k))
 
     def test_each_list_of_positions(self):
-        for graph, k in ((Graph(2, [(0, 1)]), 1), (Graph(2, [(0, 1)]), 2), (Graph(3, [(0, 1), (1, 2)]), 1), (clique(3), 1),
+        for graph, k in ((Graph(2, [(0, 1)]), 1), (Graph(2, [(0, 1)]), 2), (Graph(3, [(0, 1), (1, 2)]), 1),
+                         (clique(3), 1),
                          (Graph(3, [(0, 2)]), 1), (Graph(3, []), 0), (Graph(3, []), 2), (ring(4), 1), (clique(3), 2)):
             positions = sorted(positions_by_eye(graph, k))
             for size in range(len(positions) + 1):
@@ -320,7 +330,8 @@ class Refuges(unittest.TestCase):
                     self.assertIs(is_refuge(graph, k, list(chosen)), right, chosen)
 
     def test_one_position_more_or_less(self):
-        for graph, k in ((ring(6), 2), (grid(2, 3), 2), (clique(5), 3), (two_sides(3, 3), 3), (apart(ring(3), ring(4)), 2)):
+        for graph, k in ((ring(6), 2), (grid(2, 3), 2), (clique(5), 3), (two_sides(3, 3), 3),
+                         (apart(ring(3), ring(4)), 2)):
             told = greatest_refuge(graph, k)
             for at in range(len(told)):
                 fewer = told[:at] + told[at + 1:]
@@ -351,7 +362,8 @@ class Refuges(unittest.TestCase):
         self.assertIs(is_refuge(graph, 1, right), True)
         for value in wrong_values():
             for whole in (value, [value], right + [value], [value] + right, right[:3] + [((2,), value)],
-                          right[:3] + [(value, (0, 1))], right[:3] + [(value, value)], right[:3] + [((2,), (0, 1), value)]):
+                          right[:3] + [(value, (0, 1))], right[:3] + [(value, value)],
+                          right[:3] + [((2,), (0, 1), value)]):
                 if repr(whole) != repr(right):
                     self.assertIs(is_refuge(graph, 1, whole), False, whole)
         for spoilt in (tuple(right), {one: True for one in right}, [list(one) for one in right], iter(right), "",
@@ -524,7 +536,8 @@ class Lifts(unittest.TestCase):
 
     def test_what_is_no_decomposition_of_the_kernel(self):
         kernel, _ = width_kernel(KITE, [1, 2, 3], 2)
-        for value in wrong_values() + [SPLIT, ([], []), ([[]], []), ([[0, 1]], []), [[[0, 1, 2]], []], ([[0, 1, 2, 3]], []),
+        for value in wrong_values() + [SPLIT, ([], []), ([[]], []), ([[0, 1]], []), [[[0, 1, 2]], []],
+                                       ([[0, 1, 2, 3]], []),
                                        ([[0, 1], [1, 2]], []), ([[1, 2], [2, 3]], [(0, 1)]), ([(0, 1, 2)], [])]:
             with self.assertRaises(BadArgument, msg=value):
                 lift_decomposition(KITE, kernel, value)
@@ -535,20 +548,26 @@ class Refusals(unittest.TestCase):
         # The trace of a paper may join and drop nodes of any cover, in any order that is possible.
         graph = two_sides(2, 3)
         for trace, clique_told, right in (
-                ([("join", 0, 1)], [0, 1, 2], True), ([("join", 0, 1)], [0, 1, 4], True), ([("join", 2, 3)], [0, 2, 3], True),
-                ([("join", 2, 3)], [2, 3, 4], False), ([("join", 2, 3), ("join", 2, 4), ("join", 3, 4)], [2, 3, 4], True),
+                ([("join", 0, 1)], [0, 1, 2], True), ([("join", 0, 1)], [0, 1, 4], True),
+                ([("join", 2, 3)], [0, 2, 3], True),
+                ([("join", 2, 3)], [2, 3, 4], False), ([("join", 2, 3), ("join", 2, 4), ("join", 3, 4)], [2, 3, 4],
+                                                       True),
                 ([], [0, 1, 2], False), ([("join", 1, 0)], [0, 1, 2], False), ([("join", 0, 1)] * 2, [0, 1, 2], False),
-                ([("join", 0, 2)], [0, 1, 2], False), ([("join", 0, 0)], [0, 1, 2], False), ([("join", 0, 5)], [0, 1, 2], False),
-                ([("join", 0, 1)], [0, 1], False), ([("join", 0, 1)], [0, 1, 2, 3], False), ([("join", 0, 1)], [1, 0, 2], False),
+                ([("join", 0, 2)], [0, 1, 2], False), ([("join", 0, 0)], [0, 1, 2], False),
+                ([("join", 0, 5)], [0, 1, 2], False),
+                ([("join", 0, 1)], [0, 1], False), ([("join", 0, 1)], [0, 1, 2, 3], False),
+                ([("join", 0, 1)], [1, 0, 2], False),
                 ([("join", 0, 1), ("drop", 2, (0, 1))], [0, 1, 3], False)):
             self.assertIs(refuses_width(graph, 1, trace, clique_told), right, trace)
         tail = Graph(6, clique(4).edges + [(3, 4), (4, 5)])
         for trace, right in (([], True), ([("drop", 5, (4,))], True), ([("drop", 5, (4,)), ("drop", 4, (3,))], True),
-                             ([("drop", 4, (3,))], False), ([("drop", 4, (3, 5))], False), ([("drop", 0, (1, 2, 3))], False),
+                             ([("drop", 4, (3,))], False), ([("drop", 4, (3, 5))], False),
+                             ([("drop", 0, (1, 2, 3))], False),
                              ([("drop", 5, (4,)), ("drop", 5, (4,))], False), ([("drop", 5, ())], False),
                              ([("drop", 5, (3,))], False), ([("drop", 5, [4])], False), ([("drop", 5, (4, 4))], False),
                              ([("drop", 5, (4,)), ("drop", 4, (3, 5))], False), ([("drop", 6, ())], False),
-                             ([("drop", 5, (4,)), ("join", 4, 5)], False), ([("drop", 5, (4,)), ("join", 3, 5)], False)):
+                             ([("drop", 5, (4,)), ("join", 4, 5)], False),
+                             ([("drop", 5, (4,)), ("join", 3, 5)], False)):
             self.assertIs(refuses_width(tail, 2, trace, [0, 1, 2, 3]), right, trace)
         # What has been dropped is in no clique, and a drop of more than w neighbours is none.
         three = apart(clique(3), clique(3))
@@ -587,7 +606,8 @@ class Refusals(unittest.TestCase):
         trace, nodes = [("join", 0, 1)], [0, 1, 2]
         self.assertIs(refuses_width(graph, 1, trace, nodes), True)
         for value in wrong_values():
-            for told in (value, [value], trace + [value], [("join", 0, value)], [("drop", 0, value)], [("drop", value, ())],
+            for told in (value, [value], trace + [value], [("join", 0, value)], [("drop", 0, value)],
+                         [("drop", value, ())],
                          [("join", value, 1)], [(value, 0, 1)], [("join", 0, 1, value)], [("drop", 2, (0, value))],
                          [("join", value, value)]):
                 if repr(told) != repr(trace):
@@ -599,7 +619,8 @@ class Refusals(unittest.TestCase):
                      [("join", (0, 1))], ["join", 0, 1], [("join", -1, 1)], [("drop", 0, 1)], [("join", 0, (1,))],
                      [(None, 0, 1)], [("join", 0, None)], [("drop", None, (0, 1))]):
             self.assertIs(refuses_width(graph, 1, told, nodes), False, told)
-        for told in ((0, 1, 2), [0, True, 2], [0, 1, 2.0], [0, 1, "2"], [0, 1, 5], [0, 1, 1, 2], {0, 1, 2}, [[0, 1, 2]]):
+        for told in ((0, 1, 2), [0, True, 2], [0, 1, 2.0], [0, 1, "2"], [0, 1, 5], [0, 1, 1, 2], {0, 1, 2},
+                     [[0, 1, 2]]):
             self.assertIs(refuses_width(graph, 1, trace, told), False, told)
         for beside in ((0.0, 1), (False, 1), (0, True), [0, 1], (1, 0), ("0", "1"), (0, 1, None)):
             spoilt = [("join", 0, 1), ("drop", 2, beside)]
@@ -638,7 +659,8 @@ class LeftAsTheyWere(unittest.TestCase):
         for call in (lambda: eliminate(KITE, [0, 1, 2, 3, 4]), lambda: eliminate(KITE, [0, 1, 2, 3, 4])[0],
                      lambda: best_decomposition(KITE), lambda: [greatest_refuge(KITE, 1)],
                      lambda: width_kernel(KITE, [1, 2, 3], 2)[0][1:], lambda: width_kernel(KITE, [1, 2, 3], 1)[1],
-                     lambda: lift_decomposition(KITE, kernel, small), lambda: lift_decomposition(KITE, kernel, small)[0]):
+                     lambda: lift_decomposition(KITE, kernel, small),
+                     lambda: lift_decomposition(KITE, kernel, small)[0]):
             before = call()
             for told in call():
                 told.append(None)
