@@ -132,8 +132,9 @@ def lift_clusters(graph, k, clusters):
     if kernel is None:
         raise BadArgument("there is no kernel for the parameter")
     small, nodes = kernel
-    if not is_clustering(small, clusters) or cost(small, clusters) > k:
-        raise BadArgument("this is not a clustering of the kernel's graph that costs at most the parameter")
+    # What is no clustering of the kernel's graph has no cost there.
+    if cost(small, clusters) > k:
+        raise BadArgument("the clustering costs more than the parameter")
     torn = torn_classes(graph)
     lifted = [completed([nodes[v] for v in one], torn, k) for one in clusters]
     whole = [part for part in components(graph) if part in classes(graph)]

@@ -31,7 +31,8 @@ class Sides:
         self.graph = graph
         self.nodes = nodes
         self.outside = full_mask(graph.nodes) & ~mask_of(nodes)
-        self.masks = [mask & self.outside if self.outside >> v & 1 else 0 for v, mask in enumerate(graph.masks)]
+        # No way of the graph without the odd set comes to its nodes.
+        self.masks = [mask & self.outside for mask in graph.masks]
         colours, _ = two_colours(graph.without(nodes))
         zeros = [v for v, colour in zip(nodes_of(self.outside), colours) if colour == 0]
         # The mask of the nodes with the colour 0, and of those with the colour 1.

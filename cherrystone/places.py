@@ -71,8 +71,8 @@ def is_cutting(graph, places, nodes):
 def ways_out(graph, places, index):
     """(ways, separator): greatest disjoint ways from the border to the far border, and the farthest separator."""
     free = free_mask(graph, places)
-    # The induced graph of the free nodes, in the numbers of the graph: its other nodes lose their edges.
-    masks = [mask & free if free >> v & 1 else 0 for v, mask in enumerate(graph.masks)]
+    # The induced graph of the free nodes, in the numbers of the graph: no way comes to its other nodes.
+    masks = [mask & free for mask in graph.masks]
     border, far = borders(graph, places, index)
     return link_up(masks, border, far)
 

@@ -142,6 +142,12 @@ class ColourfulPaths(unittest.TestCase):
         self.assertEqual(colourful_count(clique(40), [v % 7 for v in range(40)], 7), 6 ** 5 * 5 ** 2 * 5040)
 
     def test_what_they_do_not_take(self):
+        for value in (0, 8, True, None):
+            with self.assertRaises(BadArgument, msg=value):
+                is_colourful(KITE, [0] * 7, value, [0])
+        for value in ([0] * 6, [3] + [0] * 6, None):
+            with self.assertRaises(BadArgument, msg=value):
+                is_colourful(KITE, value, 3, [0])
         for call in (colourful_path, colourful_count):
             for value in not_numbers(1, 7) + [0, 8]:
                 with self.assertRaises(BadArgument, msg=value):

@@ -208,7 +208,8 @@ class Refusals(unittest.TestCase):
                         (split, ways, ways), (split,), [split, ways], (tuple(split), ways), ("".join(split), ways),
                         (split, tuple(ways)), (split, [tuple(way) for way in ways]), (split + ["-"], ways),
                         (ways, split),
-                        (split, [way[1:] for way in ways]), (split, [[0] + way for way in ways]),
+                        (split, [way[1:] for way in ways]), (split, [way[:-1] for way in ways]),
+                        (split, [[0] + way for way in ways]),
                         (split, [[]] * len(ways)),
                         (split, [[float(v) for v in way] for way in ways]),
                         (split, [[str(v) for v in way] for way in ways]),
@@ -241,7 +242,7 @@ class Refusals(unittest.TestCase):
         self.assertIs(refuses_odd(graph, [0], [(["1"], [[1, 2, 3, 4]]), (["0"], [[4, 3, 2, 1]])]), False)
         wide = two_sides(2, 4).edges
         graph = Graph(7, sorted(wide + [(0, 6), (5, 6)]))
-        for way in ([2, 1, 5], [2, 1, 3]):
+        for way in ([2, 1, 5], [2, 1, 3], [5, 1], [5, 0, 2], [5], [0], [2, 0], [5, 1, 2]):
             self.assertIs(refuses_odd(graph, [6], [(["0"], [way]), (["1"], [way[::-1]])]), False)
         self.assertIs(refuses_odd(graph, [6], fewer_odd(graph, [6])[1]), True)
         for way in ([5, 0], [5, 1, 2, 0], [5, 1, 4, 0]):

@@ -398,6 +398,9 @@ class Refusals(unittest.TestCase):
                 self.assertIs(refuses_cut(ROWS, [[0], [3]], 1, value, ways), False, value)
                 self.assertIs(refuses_cut(ROWS, [[0], [3]], 1, value, value), False, value)
         self.assertIs(refuses_cut(ROWS, [[0], [3]], 1, 2, ways), False)
+        # Places are not counted from the end.
+        self.assertIs(refuses_cut(grid(1, 5), [[0], [4]], 0, -1, [[3]]), False)
+        self.assertIs(refuses_cut(grid(1, 5), [[0], [4]], 0, -1, [[3, 2, 1]]), False)
 
     def test_ways_through_places(self):
         # A way does not go through a third place, and its ends alone are in the borders.

@@ -129,6 +129,16 @@ class Changing:
                 self.near[u].discard(step[1])
 
 
+class Equal:
+    """A value that is equal to everything."""
+
+    def __eq__(self, other):
+        return True
+
+    def __ne__(self, other):
+        return False
+
+
 class Decompositions(unittest.TestCase):
     def test_by_example(self):
         bags, links = SPLIT
@@ -569,6 +579,12 @@ class Refusals(unittest.TestCase):
                              ([("drop", 5, (4,)), ("join", 4, 5)], False),
                              ([("drop", 5, (4,)), ("join", 3, 5)], False)):
             self.assertIs(refuses_width(tail, 2, trace, [0, 1, 2, 3]), right, trace)
+        # A node is not dropped twice, nor joined with itself.
+        twice = [("drop", 5, (4,)), ("drop", 5, ())]
+        self.assertIs(refuses_width(tail, 2, twice, [0, 1, 2, 3]), False)
+        claw = Graph(8, clique(4).edges + [(4, 5), (4, 6), (4, 7)])
+        self.assertIs(refuses_width(claw, 2, [("join", 4, 4)], [0, 1, 2, 3]), False)
+        self.assertIs(refuses_width(claw, 2, [("drop", 5, (4,))], [0, 1, 2, 3]), True)
         # What has been dropped is in no clique, and a drop of more than w neighbours is none.
         three = apart(clique(3), clique(3))
         self.assertIs(refuses_width(three, 2, [("drop", 0, (1, 2))], [3, 4, 5]), False)
@@ -622,11 +638,20 @@ class Refusals(unittest.TestCase):
         for told in ((0, 1, 2), [0, True, 2], [0, 1, 2.0], [0, 1, "2"], [0, 1, 5], [0, 1, 1, 2], {0, 1, 2},
                      [[0, 1, 2]]):
             self.assertIs(refuses_width(graph, 1, trace, told), False, told)
-        for beside in ((0.0, 1), (False, 1), (0, True), [0, 1], (1, 0), ("0", "1"), (0, 1, None)):
-            spoilt = [("join", 0, 1), ("drop", 2, beside)]
-            self.assertIs(refuses_width(two_sides(2, 4), 2, spoilt, [0, 1, 3, 4]), False)
-            self.assertIs(refuses_width(Graph(7, clique(4).edges + [(4, 5), (4, 6), (5, 6)]), 2,
-                                        [("drop", 4, beside)], [0, 1, 2, 3]), False)
+        ear = Graph(5, sorted(clique(4).edges + [(0, 4), (1, 4)]))
+        self.assertIs(refuses_width(ear, 2, [("drop", 4, (0, 1))], [0, 1, 2, 3]), True)
+        for beside in ((0.0, 1), (False, 1), (0, True), [0, 1], (1, 0), ("0", "1"), (0, 1, None), (0,), (0, 1, 1),
+                       {0, 1}):
+            self.assertIs(refuses_width(ear, 2, [("drop", 4, beside)], [0, 1, 2, 3]), False, beside)
+        for v in (4.0, "4", True, None, (4,), -1, 5):
+            self.assertIs(refuses_width(ear, 2, [("drop", v, (0, 1))], [0, 1, 2, 3]), False, v)
+        # A value that is equal to everything is no word.
+        equal = Equal()
+        for word in (equal, [equal], (equal,), {"drop": 0}):
+            self.assertIs(refuses_width(ear, 2, [(word, 4, (0, 1))], [0, 1, 2, 3]), False)
+            self.assertIs(refuses_width(graph, 1, [(word, 0, 1)], nodes), False)
+        self.assertIs(refuses_width(ear, 2, [("drop", 4, equal)], [0, 1, 2, 3]), False)
+        self.assertIs(refuses_width(ear, 2, [equal], [0, 1, 2, 3]), False)
 
 
 class LeftAsTheyWere(unittest.TestCase):
